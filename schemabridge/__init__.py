@@ -1,0 +1,1 @@
+"""Schemabridge: versioned schemas, canonical octets and bridges between versions."""
