@@ -4,10 +4,13 @@ from schemabridge.ids import are_alternatives
 
 FARTHEST_NUMBER = 10 ** 15
 LONGEST_TEXT = 40
-FIRST_CHARACTER = 32
-LAST_CHARACTER = 126
-# The percent sign as a code, because the sign itself may not stand in a string of the package.
-BARRED_CHARACTER = 37
+# The characters from the space on, without the percent sign.
+CHARACTERS = (
+    " !\"#$&'()*+,-./0123456789:;<=>?@ABCDEFGHIJKLMNOPQRSTUVWXYZ"
+    "[\\]^_`abcdefghijklmnopqrstuvwxyz{|}~")
+FIRST_CODE = 32
+LAST_CODE = 126
+CODE_OF_THE_PERCENT_SIGN = 37
 
 
 def is_valid_leaf(leaf):
@@ -43,6 +46,17 @@ def simple_leaf_value(leaf):
     return "a" * low
 
 
+def is_character_code(code):
+    """Tells whether texts may contain the character with that code."""
+    return FIRST_CODE <= code <= LAST_CODE and code != CODE_OF_THE_PERCENT_SIGN
+
+
+def character_of(code):
+    """Returns the character with that code, which texts may contain."""
+    # All characters behind the percent sign stand one place further left, because it is left out.
+    place = code - FIRST_CODE if code < CODE_OF_THE_PERCENT_SIGN else code - FIRST_CODE - 1
+    return CHARACTERS[place]
+
+
 def _has_allowed_characters(text):
-    codes = [ord(character) for character in text]
-    return all([FIRST_CHARACTER <= code <= LAST_CHARACTER and code != BARRED_CHARACTER for code in codes])
+    return all([is_character_code(ord(character)) for character in text])

@@ -44,6 +44,22 @@ def is_valid(schema):
     return all([count <= LARGEST_SIMPLE_VALUE for count in counts.values()])
 
 
+def is_leaf(part):
+    """Tells whether a part is a leaf and not a name."""
+    return not isinstance(part, str)
+
+
+def inner_parts(body):
+    """Returns a dict from each live id of a record or a union to its part, by ascending ids."""
+    return {row[0]: row[1] for row in body[1]}
+
+
+def simple_case(union, depths):
+    """Returns the case of the simple value of a union that is not open."""
+    # The first one of several least ones is the one with the least id.
+    return min(union[1], key=lambda case: 0 if is_leaf(case[1]) else depths[case[1]])
+
+
 def _has_value(body, depths):
     """Tells whether leaves and the definitions in depths are enough for a value of the body."""
     if body[0] == "union":
@@ -53,7 +69,7 @@ def _has_value(body, depths):
 
 
 def _is_known(part, depths):
-    return _is_leaf(part) or part in depths
+    return is_leaf(part) or part in depths
 
 
 def _needed_parts(body):
@@ -64,23 +80,13 @@ def _needed_parts(body):
     return [part for _, part, mode, _ in body[1] if mode != "optional"]
 
 
-def _is_leaf(part):
-    return not isinstance(part, str)
-
-
-def _simple_case(union, depths):
-    """Returns the case of the simple value of a union that is not open."""
-    # The first one of several least ones is the one with the least id.
-    return min(union[1], key=lambda case: 0 if _is_leaf(case[1]) else depths[case[1]])
-
-
 def _simple_parts(body, depths):
     """Returns the parts, with repetitions, of the values that the simple value of a body contains."""
     if body[0] != "union":
         return _needed_parts(body)
     if body[3]:
         return []
-    _, part = _simple_case(body, depths)
+    _, part = simple_case(body, depths)
     return [part]
 
 
@@ -91,7 +97,7 @@ def _simple_value_counts(schema, depths):
     counts = {}
     for name in sorted(depths, key=lambda found: depths[found]):
         parts = _simple_parts(body_of(schema, name), depths)
-        counts[name] = 1 + sum([1 if _is_leaf(part) else counts[part] for part in parts])
+        counts[name] = 1 + sum([1 if is_leaf(part) else counts[part] for part in parts])
     return counts
 
 
@@ -122,7 +128,7 @@ def _is_valid_body(body, names):
 
 
 def _is_valid_part(part, names):
-    if _is_leaf(part):
+    if is_leaf(part):
         return is_valid_leaf(part)
     return part in names
 
@@ -133,5 +139,5 @@ def _is_valid_field(field, names):
     if not _is_valid_part(part, names):
         return False
     if mode == "default":
-        return _is_leaf(part) and part[0] != "choice" and is_leaf_value(part, default)
+        return is_leaf(part) and part[0] != "choice" and is_leaf_value(part, default)
     return mode in ("required", "optional") and default is None

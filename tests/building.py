@@ -1,8 +1,9 @@
-"""Leaves, bodies and schemas for the tests, in short."""
+"""Leaves, bodies, schemas and values for the tests, in short."""
 
 NUMBER = ("number", 0, 9)
 TEXT = ("text", 2, 5)
 CHOICE = ("choice", (1, 2), (), False)
+FARTHEST = 10 ** 15
 
 
 def record(*fields, retired=()):
@@ -19,6 +20,11 @@ def may_have(part, number=1):
     return (number, part, "optional", None)
 
 
+def defaults(part, default, number=1):
+    """A default field."""
+    return (number, part, "default", default)
+
+
 def union(*cases, retired=(), is_open=False):
     return ("union", cases, retired, is_open)
 
@@ -32,3 +38,42 @@ def schema(**bodies):
     """A schema with these definitions; the root is the first one of them by name."""
     definitions = tuple(sorted(bodies.items()))
     return (definitions[0][0], definitions)
+
+
+LISTS = schema(a=("list", "a", 0, 2))
+RECORDS = schema(a=record(may_have("a", 7)))
+UNIONS = schema(a=union((3, "a"), is_open=True))
+
+
+def deep_lists(levels):
+    """A value of LISTS with so many lists around one another."""
+    value = ()
+    for _ in range(levels - 1):
+        value = (value,)
+    return value
+
+
+def deep_records(levels):
+    """A value of RECORDS with so many records around one another."""
+    value = ()
+    for _ in range(levels - 1):
+        value = ((7, value),)
+    return value
+
+
+def deep_unions(levels):
+    """A value of UNIONS with so many unions around one another."""
+    value = (0, None)
+    for _ in range(levels - 1):
+        value = (3, value)
+    return value
+
+
+DEEP = ((LISTS, deep_lists), (RECORDS, deep_records), (UNIONS, deep_unions))
+
+
+def tuples_only(value):
+    """Tells whether a result is built from integers, strings, None and tuples; True and False are no integers."""
+    if value.__class__ is tuple:
+        return all(tuples_only(item) for item in value)
+    return value is None or value.__class__ in (int, str)
