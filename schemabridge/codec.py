@@ -19,7 +19,7 @@ def encode_part(schema, part, value):
     while left:
         inner_part, inner = left.pop()
         if is_leaf(inner_part):
-            octets.extend(_leaf_octets(inner_part, inner))
+            octets.extend(leaf_octets(inner_part, inner))
         else:
             left.extend(_pieces(bodies[inner_part], inner)[::-1])
     return octets
@@ -59,7 +59,8 @@ def decode(schema, octets):
     return assemble(nodes)
 
 
-def _leaf_octets(leaf, value):
+def leaf_octets(leaf, value):
+    """Returns the octets of a value of the leaf."""
     if leaf[0] == "number":
         return write_number(fold(value))
     if leaf[0] == "choice":

@@ -54,6 +54,19 @@ def inner_parts(body):
     return {row[0]: row[1] for row in body[1]}
 
 
+def parts_of(body):
+    """Returns the list of the parts of a body: that of a list, or those of its fields or cases in their order."""
+    return [body[1]] if body[0] == "list" else [row[1] for row in body[1]]
+
+
+def with_parts(body, parts):
+    """Returns the body with these parts, which are as many as it has, in the place of its own ones."""
+    if body[0] == "list":
+        return (body[0], parts[0]) + body[2:]
+    rows = tuple([(row[0], part) + row[2:] for row, part in zip(body[1], parts)])
+    return (body[0], rows) + body[2:]
+
+
 def simple_case(union, depths):
     """Returns the case of the simple value of a union that is not open."""
     # The first one of several least ones is the one with the least id.

@@ -32,6 +32,15 @@ def inner_pairs(old_body, new_body):
     return tuple([(number, old_parts[number], new_parts[number]) for number in old_parts if number in new_parts])
 
 
+def keeps_mode(old_field, new_field):
+    """Tells whether the modes and defaults of two fields with the same id obey the rules."""
+    _, _, old_mode, old_default = old_field
+    _, _, new_mode, new_default = new_field
+    if old_mode == "default":
+        return new_mode == "default" and new_default == old_default
+    return old_mode == "required" or new_mode != "required"
+
+
 def _keeps_form(old_body, new_body):
     """Tells whether two bodies of the same kind obey the rules that are not about their inner pairs."""
     if old_body[0] == "list":
@@ -63,19 +72,11 @@ def _keeps_modes(old_body, new_body):
     for field in new_body[1]:
         number, _, mode, _ = field
         if number in old_fields:
-            if not _keeps_mode(old_fields[number], field):
+            if not keeps_mode(old_fields[number], field):
                 return False
         elif mode == "required":
             return False
     return True
-
-
-def _keeps_mode(old_field, new_field):
-    _, _, old_mode, old_default = old_field
-    _, _, new_mode, new_default = new_field
-    if old_mode == "default":
-        return new_mode == "default" and new_default == old_default
-    return old_mode == "required" or new_mode != "required"
 
 
 def _may_meet(old_part, new_part):
