@@ -3,8 +3,10 @@
 A block is what is to be done for a value of one body: a tuple of tasks, which a pump does in their order.
 Of the octets that a task reads, it returns all of them if is_kept is True and none otherwise. A task is:
 - ("number", low, high, is_kept) or ("text", low, high, is_kept): reads a value of the leaf.
+- ("choice", leaf, new_symbols): reads a value of the leaf and returns it, or 0 if it is none of the new symbols;
+  if they are None, it returns nothing.
 - ("list", low, high, is_kept, task): reads the number of items, and does the task for each of them.
-- ("choose", tasks): reads a natural number, and does what the dict has for it.
+- ("union", tasks): reads the natural number of a case, and does what the dict has for it.
 - ("presence", tasks): reads the octet of an optional field, and does what the dict has for it.
 - ("block", pair): does the block of a reachable pair.
 - ("skip", name): does the block that reads a value of the old schema and drops it.
@@ -63,18 +65,9 @@ def _part_task(old_part, new_part):
     if not is_leaf(old_part):
         return ("skip", old_part) if new_part is None else ("block", (old_part, new_part))
     if old_part[0] == "choice":
-        return _choice_task(old_part, new_part)
+        return ("choice", old_part, None if new_part is None else new_part[1])
     kind, low, high = old_part
     return (kind, low, high, new_part is not None)
-
-
-def _choice_task(old_leaf, new_leaf):
-    _, symbols, _, is_open = old_leaf
-    new_symbols = None if new_leaf is None else new_leaf[1]
-    tasks = {symbol: (_head(symbol, new_symbols),) for symbol in symbols}
-    if is_open:
-        tasks[0] = (_head(0, new_symbols),)
-    return ("choose", tasks)
 
 
 def _union_task(old_body, new_body):
@@ -86,14 +79,14 @@ def _union_task(old_body, new_body):
         tasks[number] = (_head(number, new_parts), _part_task(part, new_part))
     if is_open:
         tasks[0] = (_head(0, new_parts),)
-    return ("choose", tasks)
+    return ("union", tasks)
 
 
-def _head(number, new_live):
-    """Returns the task that writes a symbol or a case of the old schema for the new one, if there is one."""
-    if new_live is None:
+def _head(number, new_parts):
+    """Returns the task that writes a case of the old schema, if it is not dropped."""
+    if new_parts is None:
         return ("write", [])
-    return ("write", write_number(number if number in new_live else 0))
+    return ("write", write_number(number if number in new_parts else 0))
 
 
 def _record_block(old_body, new_body):

@@ -121,6 +121,17 @@ class BrokenRules(Checks):
                 new = record(*(chosen[number] for number in sorted(chosen)))
                 self.assert_breaks(schema(a=old), schema(a=new))
 
+    def test_a_broken_leaf_beside_ids_that_keep_the_rules(self):
+        for _, old_leaf, new_leaf in BROKEN_LEAVES:
+            old = record(needs(old_leaf, 2), needs(NUMBER, 4), may_have(TEXT, 5), retired=(6,))
+            new = record(
+                may_have(NUMBER, 1), needs(new_leaf, 2), defaults(NUMBER, 3, 3), defaults(NUMBER, 3, 4),
+                retired=(5, 6, 7))
+            self.assert_breaks(schema(a=old), schema(a=new))
+            old = union((2, old_leaf), (4, NUMBER), retired=(6,), is_open=True)
+            new = union((1, NUMBER), (2, new_leaf), retired=(4, 6, 7), is_open=True)
+            self.assert_breaks(schema(a=old), schema(a=new))
+
     def test_an_open_union_with_several_broken_ids(self):
         old = union((1, "a"), (2, NUMBER), retired=(4, 5), is_open=True)
         for new in (
