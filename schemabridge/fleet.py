@@ -30,7 +30,7 @@ class Fleet:
         self._check_host(host)
         check_route(self._registry, self._versions[host], version)
         self._versions[host] = version
-        letters = self._held[host]
+        letters = list(self._held[host])
         self._held[host] = []
         many = 0
         for letter in letters:

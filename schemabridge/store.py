@@ -4,7 +4,7 @@ from schemabridge.codec import decode, encode
 from schemabridge.errors import BadOctets, PowerLost, UnknownSlot
 from schemabridge.numbers import read_number, write_number
 from schemabridge.pump import convert
-from schemabridge.registry import check_route, check_version
+from schemabridge.registry import check_version
 
 
 class Store:
@@ -23,13 +23,12 @@ class Store:
     def put(self, slot, value, *, version):
         """Puts a message of a version into a slot."""
         self._check_power()
-        check_version(self._registry, version)
         octets = encode(self._registry.schema(version), value)
         self._add_entry(slot, version, octets)
 
     def migrate(self, slot, *, version):
         """Migrates a slot to a version, and tells whether an entry was written."""
-        own_version, octets = self._entry_that_reaches(slot, version)
+        own_version, octets = self._entry(slot)
         if own_version == version:
             return False
         self._add_entry(slot, version, convert(self._registry.bridge(own_version, version), octets))
@@ -65,7 +64,7 @@ class Store:
 
     def fetch(self, slot, *, version):
         """Returns the message of a slot, read at a version."""
-        own_version, octets = self._entry_that_reaches(slot, version)
+        own_version, octets = self._entry(slot)
         message = decode(self._registry.schema(own_version), octets)
         return self._registry.read(own_version, version, message)
 
@@ -97,12 +96,6 @@ class Store:
         if slot not in self._entries:
             raise UnknownSlot("the slot holds nothing")
         return self._entries[slot]
-
-    def _entry_that_reaches(self, slot, version):
-        """Returns the version and the octets that a slot holds, if the version given is reached from that one."""
-        own_version, octets = self._entry(slot)
-        check_route(self._registry, own_version, version)
-        return (own_version, octets)
 
     def _entry_at(self, slot, version):
         """Returns what a slot holds, at the version given if that is reached from the slot's own one."""

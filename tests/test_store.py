@@ -251,10 +251,14 @@ class Compacting(Checks):
         self.assertEqual(self.store.log(1), compacted + [9, 0, 1, 12, 9, 2, 2, 12, 0])
 
     def test_unknown_versions(self):
-        self.fill()
         for version in UNKNOWN:
             self.assert_refused(UnknownVersion, self.store.compact, version=version)
-        self.assertEqual(self.store.slots(), (3, 5, 9))
+        self.fill()
+        for _ in range(3):
+            for version in UNKNOWN:
+                self.assert_refused(UnknownVersion, self.store.compact, version=version)
+            self.assertEqual(self.store.slots(), (3, 5, 9))
+            self.store.compact(version=3)
 
 
 class Limits(Checks):
