@@ -5,29 +5,20 @@ import unittest
 from random import Random
 
 from schemabridge.codec import encode
-from schemabridge.errors import (
-    BridgeError, InvalidValue, NoRoute, TooLarge, UnknownHost, UnknownLetter, UnknownVersion)
+from schemabridge.errors import BridgeError, InvalidValue, NoRoute, UnknownHost, UnknownLetter, UnknownVersion
 from schemabridge.fleet import Fleet
 from schemabridge.reading import read
-from schemabridge.registry import Registry
-from tests.building import DEEP, NUMBER, TEXT, defaults, may_have, needs, record, schema, tuples_only
-from tests.sampling import draw_next, draw_schema, draw_value
+from tests.building import DEEP, NUMBER, TEXT, defaults, may_have, record, schema, tuples_only
+from tests.sampling import draw_value
+from tests.versions import BOTH, FIRST, branches, draw_registry, grow
 
-FIRST = schema(a=record(needs(NUMBER, 1)))
-LEFT = schema(a=record(may_have(NUMBER, 1), may_have(TEXT, 2)))
-RIGHT = schema(a=record(defaults(NUMBER, 7, 1), may_have(NUMBER, 3)))
-BOTH = schema(a=record(defaults(NUMBER, 7, 1), may_have(TEXT, 2), may_have(NUMBER, 3)))
 UNKNOWN = (-1, -4, 4, 5, 99, 10 ** 20)
 
 
 class Checks(unittest.TestCase):
     def setUp(self):
         """Versions 0 to 3 with two branches, and a host of each of them with the number of its version."""
-        self.registry = Registry()
-        self.registry.start(FIRST)
-        self.registry.admit(LEFT, parents=[0])
-        self.registry.admit(RIGHT, parents=[0])
-        self.registry.admit(BOTH, parents=[1, 2])
+        self.registry = branches()
         self.fleet = Fleet(self.registry)
         self.assertEqual([self.fleet.add_host(version) for version in range(4)], [0, 1, 2, 3])
 
@@ -312,21 +303,6 @@ class Entries(unittest.TestCase):
     def setUp(self):
         self.random = Random(113)
 
-    def registry_with_branches(self):
-        registry = Registry()
-        registry.start(draw_schema(self.random))
-        for _ in range(3):
-            self.grow(registry)
-        return registry
-
-    def grow(self, registry):
-        parent = self.random.randrange(len(registry))
-        registry.admit(draw_next(self.random, registry.schema(parent)), parents=[parent])
-        try:
-            registry.merge(self.random.randrange(len(registry)), self.random.randrange(len(registry)))
-        except TooLarge:
-            pass
-
     def step(self, registry, fleet, hosts, sent):
         """Does something at random; `sent` has the version and the message of each letter that was sent."""
         host = self.random.randrange(hosts)
@@ -375,7 +351,7 @@ class Entries(unittest.TestCase):
     def test_whatever_happens_on_the_way(self):
         entries = 0
         for _ in range(25):
-            registry = self.registry_with_branches()
+            registry = draw_registry(self.random, 3)
             fleet = Fleet(registry)
             hosts = 5
             for _ in range(hosts):
@@ -386,7 +362,7 @@ class Entries(unittest.TestCase):
             for turn in range(60):
                 self.step(registry, fleet, hosts, sent)
                 if turn % 20 == 19:
-                    self.grow(registry)
+                    grow(self.random, registry)
                     self.check(registry, fleet, hosts, sent, seen)
             entries += sum(len(inbox) for inbox in seen)
         self.assertGreater(entries, 200)

@@ -110,6 +110,13 @@ class Leaves(Checks):
                 self.assert_converted(
                     schema(a=union((3, old_leaf))), schema(a=union(retired=(3,), is_open=True)), (3, value), [0])
 
+    def test_leaves_beside_others(self):
+        random = Random(137)
+        for old_leaf, new_leaf in KEPT_LEAVES:
+            for old, new in leaf_bodies(old_leaf, new_leaf):
+                for _ in range(3):
+                    self.assert_converted(schema(z=old), schema(z=new), draw_value(random, schema(z=old), "z"))
+
     def test_symbols(self):
         old = schema(a=("list", opened((1, 2, 99), (5,)), 0, 9))
         new = schema(a=("list", opened((1, 3), (2, 5, 99)), 0, 9))

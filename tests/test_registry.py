@@ -14,14 +14,10 @@ from schemabridge.pump import convert
 from schemabridge.reading import read, read_route
 from schemabridge.registry import Registry
 from schemabridge.schemas import is_valid
-from tests.building import DEEP, LISTS, NUMBER, TEXT, defaults, may_have, needs, numbers, record, schema, union
-from tests.sampling import draw_next, draw_schema, draw_value
+from tests.building import DEEP, LISTS, NUMBER, TEXT, may_have, needs, numbers, record, schema, union
+from tests.sampling import draw_value
+from tests.versions import BOTH, FIRST, LEFT, RIGHT, branches, draw_registry
 
-FIRST = schema(a=record(needs(NUMBER, 1)))
-# Two branches behind the first schema, and what follows both of them.
-LEFT = schema(a=record(may_have(NUMBER, 1), may_have(TEXT, 2)))
-RIGHT = schema(a=record(defaults(NUMBER, 7, 1), may_have(NUMBER, 3)))
-BOTH = schema(a=record(defaults(NUMBER, 7, 1), may_have(TEXT, 2), may_have(NUMBER, 3)))
 # What no other one of these follows.
 STRANGE = schema(a=record(needs(TEXT, 1)))
 INVALID = (
@@ -33,11 +29,7 @@ UNKNOWN = (-1, 4, 5, 99, -99, 10 ** 20)
 
 class Checks(unittest.TestCase):
     def setUp(self):
-        self.registry = Registry()
-        self.registry.start(FIRST)
-        self.registry.admit(LEFT, parents=[0])
-        self.registry.admit(RIGHT, parents=(0,))
-        self.registry.admit(BOTH, parents=[2, 1])
+        self.registry = branches()
 
     def state(self):
         many = len(self.registry)
@@ -223,24 +215,13 @@ class Routes(Checks):
     def test_random_registries(self):
         random = Random(109)
         for _ in range(30):
-            registry = Registry()
-            registry.start(draw_schema(random))
-            for _ in range(6):
-                parent = random.randrange(len(registry))
-                registry.admit(draw_next(random, registry.schema(parent)), parents=[parent])
-                self.merge_two(random, registry)
+            registry = draw_registry(random, 6)
             many = len(registry)
             for old in range(many):
                 value = draw_value(random, registry.schema(old), registry.schema(old)[0])
                 for new in range(old, many):
                     if registry.reaches(old, new):
                         self.check_route(registry, old, new, value)
-
-    def merge_two(self, random, registry):
-        try:
-            registry.merge(random.randrange(len(registry)), random.randrange(len(registry)))
-        except TooLarge:
-            pass
 
     def check_route(self, registry, old, new, value):
         before, after = registry.schema(old), registry.schema(new)

@@ -5,13 +5,13 @@ from random import Random
 
 from schemabridge.codec import decode, encode
 from schemabridge.deciding import follows
-from schemabridge.errors import NoRoute, PowerLost, TooLarge, UnknownSlot
+from schemabridge.errors import NoRoute, PowerLost, UnknownSlot
 from schemabridge.fleet import Fleet
 from schemabridge.pump import convert
 from schemabridge.reading import read, read_route
-from schemabridge.registry import Registry
 from schemabridge.store import Store
-from tests.sampling import draw_next, draw_schema, draw_value
+from tests.sampling import draw_value
+from tests.versions import draw_registry, grow
 
 
 def told(registry, fleets, stores):
@@ -26,11 +26,7 @@ class SideBySide(unittest.TestCase):
     def setUp(self):
         """Two registries, and three fleets and three stores: two of each of the first registry, one of the second."""
         self.random = Random(131)
-        self.registries = [Registry(), Registry()]
-        for registry in self.registries:
-            registry.start(draw_schema(self.random))
-            for _ in range(4):
-                self.grow(registry)
+        self.registries = [draw_registry(self.random, 4), draw_registry(self.random, 4)]
         self.fleets = [Fleet(self.registries[place]) for place in (0, 0, 1)]
         self.stores = [Store(self.registries[place]) for place in (0, 0, 1)]
         for fleet, place in zip(self.fleets, (0, 0, 1)):
@@ -39,14 +35,6 @@ class SideBySide(unittest.TestCase):
         self.sent = [{}, {}, {}]
         self.letters = [0, 0, 0]
         self.held = [{}, {}, {}]
-
-    def grow(self, registry):
-        parent = self.random.randrange(len(registry))
-        registry.admit(draw_next(self.random, registry.schema(parent)), parents=[parent])
-        try:
-            registry.merge(parent, self.random.randrange(len(registry)))
-        except TooLarge:
-            pass
 
     def message(self, found):
         return draw_value(self.random, found, found[0])
@@ -116,7 +104,7 @@ class SideBySide(unittest.TestCase):
                 self.registries[1 - which], [self.fleets[other] for other in others],
                 [self.stores[other] for other in others])
             if turn % 60 == 59:
-                self.grow(self.registries[which])
+                grow(self.random, self.registries[which])
             elif turn % 2:
                 self.use_fleet(place, self.registries[which])
             else:

@@ -5,20 +5,14 @@ import unittest
 from random import Random
 
 from schemabridge.codec import encode
-from schemabridge.errors import (
-    BridgeError, InvalidValue, NoRoute, PowerLost, TooLarge, UnknownSlot, UnknownVersion)
+from schemabridge.errors import BridgeError, InvalidValue, NoRoute, PowerLost, UnknownSlot, UnknownVersion
 from schemabridge.numbers import write_number
 from schemabridge.reading import read
-from schemabridge.registry import Registry
 from schemabridge.store import Store
-from tests.building import DEEP, NUMBER, TEXT, defaults, may_have, needs, numbers, record, schema, tuples_only
-from tests.sampling import draw_next, draw_schema, draw_value
+from tests.building import DEEP, NUMBER, TEXT, defaults, may_have, numbers, record, schema, tuples_only
+from tests.sampling import draw_value
+from tests.versions import branches, draw_registry
 
-FIRST = schema(a=record(needs(NUMBER, 1)))
-LEFT = schema(a=record(may_have(NUMBER, 1), may_have(TEXT, 2)))
-RIGHT = schema(a=record(defaults(NUMBER, 7, 1), may_have(NUMBER, 3)))
-BOTH = schema(a=record(defaults(NUMBER, 7, 1), may_have(TEXT, 2), may_have(NUMBER, 3)))
-SCHEMAS = (FIRST, LEFT, RIGHT, BOTH)
 UNKNOWN = (-1, 4, 5, 99, 10 ** 20)
 NO_MESSAGES = ((), "ab", None, 5, ((1, 10),), ((9, 9),))
 
@@ -29,11 +23,7 @@ def entry(slot, version, octets):
 
 class Checks(unittest.TestCase):
     def setUp(self):
-        self.registry = Registry()
-        self.registry.start(FIRST)
-        self.registry.admit(LEFT, parents=[0])
-        self.registry.admit(RIGHT, parents=[0])
-        self.registry.admit(BOTH, parents=[1, 2])
+        self.registry = branches()
         self.store = Store(self.registry)
 
     def octets(self):
@@ -441,18 +431,6 @@ class Holding(unittest.TestCase):
     def setUp(self):
         self.random = Random(127)
 
-    def registry_with_branches(self):
-        registry = Registry()
-        registry.start(draw_schema(self.random))
-        for _ in range(4):
-            parent = self.random.randrange(len(registry))
-            registry.admit(draw_next(self.random, registry.schema(parent)), parents=[parent])
-            try:
-                registry.merge(self.random.randrange(len(registry)), self.random.randrange(len(registry)))
-            except TooLarge:
-                pass
-        return registry
-
     def step(self, registry, store, held):
         """Does something at random; `held` has the version and the message of what was put into each slot."""
         word = self.random.choice(("put", "put", "put", "migrate", "migrate", "compact", "limit", "reopen"))
@@ -493,7 +471,7 @@ class Holding(unittest.TestCase):
     def test_each_slot_holds_what_was_put_last(self):
         cut = 0
         for _ in range(30):
-            registry = self.registry_with_branches()
+            registry = draw_registry(self.random, 4)
             store = Store(registry)
             held = {}
             for _ in range(40):
